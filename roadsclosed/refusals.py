@@ -1,0 +1,6 @@
+"""The numbers by which a call is refused."""
+
+NO_SUCH = -2
+WRONG = -22
+FULL = -28
+NOT_BEGUN = -61
