@@ -22,3 +22,7 @@ def has_crossing(course, c):
 
 def has_place(course, p):
     return p < course.places
+
+
+def has_road(course, r):
+    return r < len(course.roads)

@@ -3,4 +3,5 @@
 NO_SUCH = -2
 WRONG = -22
 FULL = -28
+NO_WAY = -33
 NOT_BEGUN = -61

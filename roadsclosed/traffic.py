@@ -42,3 +42,11 @@ def shut_spans(cars):
             found.append((minute, behind - minute))
             minute = behind
     return found
+
+
+def cars_at(course, c):
+    return car_marks(course.minutes, course.gap, course.crossings[c])
+
+
+def shuts_at(course, c):
+    return shut_spans(cars_at(course, c))

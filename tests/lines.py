@@ -6,6 +6,7 @@ NOT_BEGUN = -61
 NO_SUCH = -2
 WRONG = -22
 FULL = -28
+NO_WAY = -33
 HUGE = 4294967295
 
 
@@ -53,9 +54,56 @@ def shuts(c):
     return [10, c]
 
 
+def longest(c):
+    return [11, c]
+
+
+def holds(c, most):
+    return [12, c, most]
+
+
+def least(c, n):
+    return [13, c, n]
+
+
+def marshals():
+    return [14]
+
+
+def duties():
+    return [15]
+
+
+def arrive(p, q, t):
+    return [16, p, q, t]
+
+
+def everywhere(p, t):
+    return [17, p, t]
+
+
+def latest(p, q, t):
+    return [18, p, q, t]
+
+
+def worst(p, q):
+    return [19, p, q]
+
+
+def look(r):
+    return [20, r]
+
+
+def state():
+    return [21]
+
+
 def told(calls):
     """What a line answers, one list for each call."""
-    flat = answers([number for call in calls for number in call])
+    handed = [number for call in calls for number in call]
+    if not 1 <= len(calls) <= 100 or len(handed) > 500:
+        raise ValueError("no such line is handed in")
+    flat = answers(handed)
     rows = []
     at = 0
     while at < len(flat):
@@ -85,10 +133,33 @@ def answered(calls, asked):
     return [answer[0] for answer in told(calls + asked)[len(calls):]]
 
 
-def probe(minutes, crossings):
+def probe(minutes, crossings, roads):
     """Calls that together show all that a refused call could have changed; the last ones change things themselves."""
-    calls = []
+    calls = [state(), duties()] + [look(r) for r in range(roads + 1)]
     for c in range(crossings):
-        calls += [runs(c, t) for t in range(minutes)] + [runs(c, minutes), shuts(c), clear(c)]
-    calls += [runs(crossings, 0), gap(1), crossing(), place(), place(), road(0, 1, 1, 0)]
-    return calls
+        calls += [runs(c, t) for t in range(minutes)] + [shuts(c), clear(c)]
+    return calls + [gap(1), crossing(), place(), place(), road(0, 1, 1, 0), state()]
+
+
+def may_cross(free, needed, minute):
+    """As the words say it; free tells of each minute of the day, and all behind the day are free."""
+    for start in range(max(0, minute - needed + 1), minute + 1):
+        if all(at >= len(free) or free[at] for at in range(start, start + needed)):
+            return True
+    return False
+
+
+def spans_of(free):
+    """Spans that leave just these minutes free."""
+    spans = []
+    for minute, is_free in enumerate(free):
+        if not is_free and spans and sum(spans[-1]) == minute:
+            spans[-1] = (spans[-1][0], spans[-1][1] + 1)
+        elif not is_free:
+            spans.append((minute, 1))
+    return spans
+
+
+def every_day(minutes):
+    """Every way in which runners may pass in the minutes of a day: of each minute, whether it's free."""
+    return [[pattern >> minute & 1 == 0 for minute in range(minutes)] for pattern in range(2 ** minutes)]

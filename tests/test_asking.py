@@ -3,7 +3,8 @@
 import unittest
 
 from lines import (
-    HUGE, NO_SUCH, WRONG, answered, at_crossing, begin, crossable, crossing, following, last, row, runs, shuts, span,
+    HUGE, NO_SUCH, WRONG, answered, at_crossing, begin, crossable, crossing, every_day, following, last, may_cross, row,
+    runs, shuts, span, spans_of,
 )
 
 
@@ -122,25 +123,6 @@ class Refusals(unittest.TestCase):
             self.assertEqual(last(self.made + [call]), [NO_SUCH])
 
 
-def may_cross(free, needed, minute):
-    """As the words say it; free tells of each minute of the day, and all behind the day are free."""
-    for start in range(max(0, minute - needed + 1), minute + 1):
-        if all(at >= len(free) or free[at] for at in range(start, start + needed)):
-            return True
-    return False
-
-
-def spans_of(free):
-    """Spans that leave just these minutes free."""
-    spans = []
-    for minute, is_free in enumerate(free):
-        if not is_free and spans and sum(spans[-1]) == minute:
-            spans[-1] = (spans[-1][0], spans[-1][1] + 1)
-        elif not is_free:
-            spans.append((minute, 1))
-    return spans
-
-
 class AllShortDays(unittest.TestCase):
     """Each day of up to 9 minutes, with runners in any of them, and each gap, beside the words of the document."""
 
@@ -160,8 +142,7 @@ class AllShortDays(unittest.TestCase):
 
     def test_all(self):
         for minutes in range(1, 10):
-            for pattern in range(2 ** minutes):
-                free = [pattern >> minute & 1 == 0 for minute in range(minutes)]
+            for free in every_day(minutes):
                 for needed in range(1, 9):
                     self.check(free, needed)
 

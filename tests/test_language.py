@@ -36,6 +36,10 @@ NOT_NAMES = set("""
 NOT_WORDS = re.compile(
     r"\b(type|typing|typing_extensions|enum|Enum|IntEnum|StrEnum|Flag|IntFlag|Generic|Protocol|ABC|ABCMeta|namedtuple"
     r"|NamedTuple|TypedDict|TYPE_CHECKING|abstractmethod)\b|dataclass|overload|contextmanager")
+WALKED = ("zip", "enumerate", "reversed", "range", "items", "keys", "values")
+WALKERS = ("list", "tuple", "dict", "sorted", "sum", "any", "all", "enumerate", "zip")
+KEYWORDS = {"sorted": ("key", "reverse"), "min": ("key", "default"), "max": ("key", "default"), "sum": ("start",),
+            "enumerate": ("start",), "zip": ("strict",)}
 TWO_UNDERSCORES = {"__init__", "__eq__", "__repr__", "__str__", "__len__"}
 
 
@@ -61,6 +65,20 @@ def bound_at_top(tree):
         elif isinstance(node, ast.ImportFrom):
             names += [alias.name for alias in node.names]
     return names
+
+
+def called(node):
+    """The name by which a call calls."""
+    return node.func.attr if isinstance(node.func, ast.Attribute) else getattr(node.func, "id", "")
+
+
+def walking_spots(tree):
+    """What stands where it is walked on the spot."""
+    spots = [node.iter for node in ast.walk(tree) if isinstance(node, (ast.For, ast.comprehension))]
+    for node in ast.walk(tree):
+        if isinstance(node, ast.Call) and called(node) in WALKERS:
+            spots += node.args[:1]
+    return spots
 
 
 class Files(unittest.TestCase):
@@ -145,6 +163,54 @@ class Names(unittest.TestCase):
                       and isinstance(node.ctx, ast.Store) and node.col_offset > 0]
             inside += [node.arg for node in ast.walk(tree) if isinstance(node, ast.arg)]
             self.assertEqual(set(inside) & set(names), set(), path.name)
+
+
+class Values(unittest.TestCase):
+    def test_one_for_and_at_most_one_if(self):
+        for name, node in nodes(ast.ListComp):
+            self.assertEqual(len(node.generators), 1, (name, node.lineno))
+            self.assertLessEqual(len(node.generators[0].ifs), 1, (name, node.lineno))
+
+    def test_walked_at_once(self):
+        for path, tree in trees():
+            spots = walking_spots(tree)
+            for node in ast.walk(tree):
+                if isinstance(node, ast.Call) and called(node) in WALKED:
+                    self.assertIn(node, spots, (path.name, node.lineno))
+
+    def test_no_set_is_kept(self):
+        for name, node in nodes(ast.Call):
+            self.assertNotIn(called(node), ("set", "frozenset"), (name, node.lineno))
+
+    def test_keywords(self):
+        for name, node in nodes(ast.Call):
+            for keyword in node.keywords:
+                self.assertIn(keyword.arg, KEYWORDS.get(called(node), ()), (name, node.lineno))
+
+    def test_no_sign_of_remainder_in_a_text(self):
+        for name, node in nodes(ast.Constant):
+            if isinstance(node.value, str):
+                self.assertNotIn("%", node.value, (name, node.lineno))
+
+    def test_no_power(self):
+        self.assertEqual(nodes(ast.Pow), [])
+
+    def test_the_top_keeps_plain_values(self):
+        for path, tree in trees():
+            for node in tree.body:
+                if isinstance(node, ast.Assign):
+                    for part in ast.walk(node.value):
+                        self.assertIsInstance(part, (ast.Constant, ast.Tuple, ast.UnaryOp, ast.USub, ast.Load),
+                                              (path.name, node.lineno))
+
+    def test_no_name_is_a_method_and_a_value(self):
+        methods = {part.name for name, node in nodes(ast.ClassDef) for part in node.body
+                   if isinstance(part, ast.FunctionDef)}
+        kept = {node.attr for name, node in nodes(ast.Attribute) if isinstance(node.ctx, ast.Store)}
+        self.assertEqual(methods & kept, set())
+        for word in kept:
+            for own in ("", 0, [], {}, set(), b""):
+                self.assertFalse(hasattr(own, word), word)
 
 
 class Imports(unittest.TestCase):

@@ -3,8 +3,8 @@
 import unittest
 
 from lines import (
-    FULL, HUGE, NO_SUCH, WRONG, answered, at_crossing, begin, clear, crossable, crossing, following, gap, last, place,
-    probe, road, row, runs, shuts, span, told,
+    FULL, HUGE, NO_SUCH, WRONG, answered, at_crossing, begin, clear, crossable, crossing, following, gap, last, look,
+    place, probe, road, row, runs, shuts, span, state, told,
 )
 
 
@@ -37,8 +37,9 @@ class Begin(unittest.TestCase):
             self.assertEqual(last([begin(10, needed), gap(1)]), [needed])
 
     def test_nothing_is_there(self):
-        for call in (runs(0, 0), crossable(0, 0), following(0, 0), shuts(0), clear(0), span(0, 0, 1)):
+        for call in (runs(0, 0), crossable(0, 0), following(0, 0), shuts(0), clear(0), span(0, 0, 1), look(0)):
             self.assertEqual(last([begin(10, 1), call]), [NO_SUCH])
+        self.assertEqual(last([begin(10, 1), state()]), [10, 1, 0, 0, 0])
         self.assertEqual(last([begin(10, 1), road(0, 1, 1, 0)]), [NO_SUCH])
         self.assertEqual(told([begin(10, 1), crossing(), place()]), [[0], [0], [0]])
 
@@ -52,7 +53,7 @@ class BeginAnew(unittest.TestCase):
         self.assertEqual(last(anew), [0])
         for call in (runs(0, 0), shuts(1), clear(0), road(0, 1, 1, 0)):
             self.assertEqual(last(anew + [call]), [NO_SUCH])
-        self.assertEqual(answered(anew, probe(10, 0)), answered([begin(10, 2)], probe(10, 0)))
+        self.assertEqual(told(anew + probe(10, 0, 2))[len(anew):], told([begin(10, 2)] + probe(10, 0, 2))[1:])
 
     def test_spans_and_roads_are_gone(self):
         anew = self.full + [begin(10, 2), crossing()]
@@ -65,12 +66,13 @@ class BeginAnew(unittest.TestCase):
         self.assertEqual(last(anew + [runs(0, 29)]), [0])
         self.assertEqual(last(anew + [runs(0, 30)]), [WRONG])
         self.assertEqual(last(anew + [gap(1)]), [8])
+        self.assertEqual(last(anew + [state()]), [30, 8, 1, 0, 0])
 
     def test_a_refused_one_changes_nothing(self):
         for refused in (begin(0, 1), begin(121, 1), begin(10, 0), begin(10, 9), begin(HUGE, HUGE)):
             self.assertEqual(last(self.full + [refused]), [WRONG])
-            self.assertEqual(told(self.full + [refused] + probe(20, 2))[len(self.full) + 1:],
-                             told(self.full + probe(20, 2))[len(self.full):])
+            self.assertEqual(told(self.full + [refused] + probe(20, 2, 2))[len(self.full) + 1:],
+                             told(self.full + probe(20, 2, 2))[len(self.full):])
 
 
 class Crossing(unittest.TestCase):
@@ -207,6 +209,12 @@ class Road(unittest.TestCase):
         for wrong in (road(0, 0, 5, 0), road(0, 1, 0, 0), road(0, 1, 101, 1), road(1, 1, 0, 0)):
             self.assertEqual(last(full + [wrong]), [WRONG])
 
+    def test_it_is_kept_as_told(self):
+        for told_road in (road(0, 1, 1, 0), road(2, 0, 100, 1), road(1, 2, 37, 2)):
+            made = self.made + [crossing(), told_road]
+            p, q, length, over = told_road[1:]
+            self.assertEqual(last(made + [look(0)]), [length, p, q, over])
+
     def test_either_way_and_twice(self):
         self.assertEqual(told(self.made + [road(0, 1, 5, 0), road(1, 0, 5, 0), road(0, 1, 5, 0)])[-3:], [[0], [1], [2]])
 
@@ -239,29 +247,6 @@ class Gap(unittest.TestCase):
     def test_for_all_crossings(self):
         made = [begin(5, 1), crossing(), crossing(), span(0, 1, 1), span(1, 1, 1)]
         self.assertEqual(answered(made + [gap(2)], [crossable(0, 0), crossable(1, 0)]), [0, 0])
-
-
-class RefusedChangesNothing(unittest.TestCase):
-    def check(self, made, refused, minutes, crossings):
-        told_without = told(made + probe(minutes, crossings))[len(made):]
-        for call in refused:
-            rows = told(made + [call] + probe(minutes, crossings))[len(made):]
-            self.assertLess(rows[0][0], 0)
-            self.assertEqual(len(rows[0]), 1)
-            self.assertEqual(rows[1:], told_without, call)
-
-    def test_with_room_left(self):
-        made = [begin(12, 2), crossing(), crossing(), span(0, 1, 3), span(1, 4, 4), place(), place(), road(0, 1, 9, 1)]
-        self.check(made, [
-            span(2, 0, 1), span(0, 0, 0), span(0, 11, 2), span(1, 12, 1), span(0, HUGE, HUGE), clear(2), clear(HUGE),
-            road(0, 2, 5, 0), road(2, 0, 5, 0), road(0, 1, 5, 3), road(1, 1, 5, 0), road(0, 1, 0, 0), road(0, 1, 101, 0),
-            gap(0), gap(9), runs(2, 0), runs(0, 12), crossable(2, 0), crossable(0, 12), following(2, 0),
-            following(0, 12), shuts(2),
-        ], 12, 2)
-
-    def test_without_room(self):
-        made = [begin(3, 2)] + [crossing()] * 6 + [span(5, 1, 1)] * 6 + [place()] * 6 + [road(0, 1, 5, 0)] * 12
-        self.check(made, [crossing(), span(5, 0, 1), place(), road(0, 1, 5, 0)], 3, 6)
 
 
 if __name__ == "__main__":
